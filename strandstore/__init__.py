@@ -1,0 +1,1 @@
+"""Bytes in strands, whole: bytes written as strands of four letters."""
