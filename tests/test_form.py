@@ -94,8 +94,11 @@ class TestForm(unittest.TestCase):
                 self.assertLessEqual(len(node.generators[0].ifs), 1, where)
             if isinstance(node, ast.Constant):
                 self.assertIsInstance(node.value, (int, str, type(None)), where)
-            if isinstance(node, (ast.Div, ast.Pow, ast.MatMult)):
+            if isinstance(node, (ast.Div, ast.MatMult)):
                 self.fail(where)
+            if isinstance(node, ast.BinOp) and isinstance(node.op, ast.Pow):
+                self.assertIsInstance(node.right, ast.Constant, where)
+                self.assertLessEqual(node.right.value, 64, where)
 
     def test_imports(self):
         for where, node in self.each_node():
