@@ -1,4 +1,4 @@
-"""A strand's number and load as its 64 letters."""
+"""A strand's number and load as its 64 letters, and back."""
 
 LETTERS = (65, 67, 71, 84)
 STRAND_LENGTH = 64
@@ -15,6 +15,17 @@ def bits_of(content):
         for shift in range(7, -1, -1):
             bits.append((byte >> shift) & 1)
     return bits
+
+
+def bytes_of(bits):
+    """The bytes that have these bits, of each the highest first."""
+    content = []
+    for first in range(0, len(bits), 8):
+        byte = 0
+        for bit in bits[first:first + 8]:
+            byte = 2 * byte + bit
+        content.append(byte)
+    return content
 
 
 def row_weight(row):
@@ -34,6 +45,11 @@ def carrying_row(bits):
     return row
 
 
+def carried_bits(row):
+    """The bits at a row's carrying places, rising."""
+    return [bit for place, bit in enumerate(row, start=1) if place not in WEIGHT_PLACES]
+
+
 def right_row(bits):
     """The row that carries the bits and weighs 0."""
     row = carrying_row(bits)
@@ -49,3 +65,32 @@ def strand_letters(number, load):
     upper_row = right_row(bits[:ROW_BITS] + [0])
     lower_row = right_row(bits[ROW_BITS:] + [0])
     return [LETTERS[2 * upper + lower] for upper, lower in zip(upper_row, lower_row)]
+
+
+def are_letters(numbers):
+    return all([number in LETTERS for number in numbers])
+
+
+def upper_row_of(letters):
+    return [LETTERS.index(letter) // 2 for letter in letters]
+
+
+def lower_row_of(letters):
+    return [LETTERS.index(letter) % 2 for letter in letters]
+
+
+def strand_content(upper_row, lower_row):
+    """The 14 bytes in a strand of these rows; None if a last carried bit isn't 0."""
+    upper_bits = carried_bits(upper_row)
+    lower_bits = carried_bits(lower_row)
+    if upper_bits[ROW_BITS] != 0 or lower_bits[ROW_BITS] != 0:
+        return None
+    return bytes_of(upper_bits[:ROW_BITS] + lower_bits[:ROW_BITS])
+
+
+def number_in(content):
+    return content[0] + 256 * content[1]
+
+
+def load_in(content):
+    return content[2:]

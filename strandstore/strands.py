@@ -8,6 +8,9 @@ from strandstore.writer import Writer
 SK_START = 0
 SK_STRAND = 1
 SR_START = 2
+SR_READ = 3
+SR_LACKS = 4
+SR_BYTES = 5
 
 
 class UnknownCall(ValueError):
@@ -34,14 +37,21 @@ def answer_next(numbers, writer, reader):
         return writer.strand(numbers.take_number())
     if call == SR_START:
         return sr_start(numbers, reader)
+    if call == SR_READ:
+        return reader.read(numbers.take_row())
+    if call == SR_LACKS:
+        return reader.lacks()
+    if call == SR_BYTES:
+        return reader.block(numbers.take_number())
     raise UnknownCall(f"no call has the number {call}")
 
 
 def answers(calls):
     """For each call, in order: how many numbers are answered, then these."""
     numbers = CallNumbers(calls)
-    writer = Writer(Field())
-    reader = Reader()
+    field = Field()
+    writer = Writer(field)
+    reader = Reader(field)
     answered = []
     while not numbers.is_taken():
         answer = answer_next(numbers, writer, reader)

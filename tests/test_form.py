@@ -25,6 +25,7 @@ PYTHON_METHODS = {name for kind in (str, int, list, dict, set, bytes) for name i
 PYTHON_METHODS_USED = set("""append clear copy count endswith extend find get index insert isalnum isalpha isdigit
 islower isspace isupper items join keys ljust lower lstrip partition pop remove replace reverse rfind rjust rpartition
 rsplit rstrip setdefault split splitlines startswith strip update upper values zfill bit_length""".split())
+TOP_PARTS = (ast.Expr, ast.ImportFrom, ast.Assign, ast.FunctionDef, ast.ClassDef)
 WALKED = set("zip enumerate reversed range".split())
 WALKERS = set("list tuple dict sorted sum any all enumerate zip min max".split())
 
@@ -111,6 +112,44 @@ class TestForm(unittest.TestCase):
                 for name in node.names:
                     self.assertIn(name.name, top, where)
                     self.assertIsNone(name.asname, where)
+
+    def test_no_two_files_draw_from_one_another(self):
+        draws_from = {}
+        for name, tree in self.trees.items():
+            imports = [part for part in tree.body if isinstance(part, ast.ImportFrom)]
+            draws_from[name] = {part.module.split(".")[1] + ".py" for part in imports}
+        while draws_from:
+            free = [name for name, drawn in draws_from.items() if not drawn & set(draws_from)]
+            self.assertNotEqual(free, [], draws_from)
+            for name in free:
+                del draws_from[name]
+
+    def test_the_top_of_a_file(self):
+        for name, tree in self.trees.items():
+            names = [bound for part in tree.body for inner in [part] + getattr(part, "targets", [])
+                     for bound in bound_names(inner)]
+            names += [alias.name for part in tree.body if isinstance(part, ast.ImportFrom) for alias in part.names]
+            self.assertEqual(len(names), len(set(names)), name)
+            for part in tree.body:
+                where = f"{name}:{part.lineno}"
+                self.assertIsInstance(part, TOP_PARTS, where)
+                if isinstance(part, ast.Expr):
+                    self.assertIsInstance(part.value, ast.Constant, where)
+                if isinstance(part, ast.Assign):
+                    ast.literal_eval(part.value)
+
+    def test_locals_are_not_called_like_a_class_or_an_import(self):
+        for name, tree in self.trees.items():
+            taken = {part.name for part in tree.body if isinstance(part, ast.ClassDef)}
+            taken |= {alias.name for part in tree.body if isinstance(part, ast.ImportFrom) for alias in part.names}
+            for node in ast.walk(tree):
+                if isinstance(node, (ast.arg, ast.Name)):
+                    self.assertEqual(taken & set(bound_names(node)), set(), f"{name}:{node.lineno}")
+
+    def test_texts(self):
+        for where, node in self.each_node():
+            if isinstance(node, ast.Constant) and isinstance(node.value, str):
+                self.assertNotIn("%", node.value, where)
 
     def test_functions(self):
         for where, node in self.each_node():
